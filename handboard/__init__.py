@@ -1,0 +1,1 @@
+"""The notice board: results written page by page, with check signs."""
