@@ -5,6 +5,7 @@ from handboard.rows import words_of
 
 LINE_FEED = 10
 ROWS_ON_A_PAGE = 20
+MOST_PAGES = 4
 
 
 def page_words(number, page_count):

@@ -1,10 +1,13 @@
 """The calls of the notice board."""
 
 from handboard.board import board_of
-from handboard.rows import MOST_ROWS, are_right
+from handboard.reading import CANNOT_STAND, NO_FAULT, Reading, pieces_of, take_piece
+from handboard.rows import MOST_ROWS, are_right, denominator_of, name_of, numerator_of, place_of
 
 TOO_MANY = -2
+AT_FAULT = -6
 NOT_RIGHT = -8
+MOST_BYTES = 65536
 
 
 def print_of(rows):
@@ -15,3 +18,26 @@ def print_of(rows):
         return [NOT_RIGHT]
     text = board_of(rows)
     return [len(text)] + text
+
+
+def told_row(row):
+    name = name_of(row)
+    return [len(name)] + name + [place_of(row), numerator_of(row), denominator_of(row)]
+
+
+def read(text):
+    """How many rows the board has, then what is told of each; or a refusal."""
+    if len(text) > MOST_BYTES:
+        return [TOO_MANY]
+    reading = Reading()
+    pieces = pieces_of(text)
+    for number, piece in enumerate(pieces):
+        why = take_piece(reading, piece)
+        if why != NO_FAULT:
+            return [AT_FAULT, number, why]
+    if not reading.is_whole():
+        return [AT_FAULT, len(pieces), CANNOT_STAND]
+    answer = [len(reading.rows)]
+    for row in reading.rows:
+        answer.extend(told_row(row))
+    return answer

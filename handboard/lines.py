@@ -7,6 +7,8 @@ FIRST_DIGIT = 48
 WORTH_OF_FIRST_LETTER = 1
 WORTH_OF_FIRST_DIGIT = 27
 SIGN_COUNT = 37
+SHORTEST_LINE = 2
+LONGEST_LINE = 36
 
 
 def is_letter(byte):
@@ -15,6 +17,15 @@ def is_letter(byte):
 
 def is_digit(byte):
     return FIRST_DIGIT <= byte <= FIRST_DIGIT + 9
+
+
+def is_sign(byte):
+    return byte == BLANK or is_letter(byte) or is_digit(byte)
+
+
+def are_signs(given, fewest, most):
+    """Whether these bytes are signs, and as many as told."""
+    return fewest <= len(given) <= most and all([is_sign(byte) for byte in given])
 
 
 def worth_of(sign):
@@ -44,6 +55,11 @@ def weighted_sum(worths):
 
 def check_sum(signs):
     return weighted_sum([worth_of(sign) for sign in signs])
+
+
+def is_line(signs):
+    """Whether these 2 to 36 signs are a line."""
+    return check_sum(signs) % SIGN_COUNT == 0
 
 
 def check_sign(signs):

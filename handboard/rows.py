@@ -1,6 +1,6 @@
 """Rows as they are handed in: place, numerator, denominator, then the name's bytes."""
 
-from handboard.lines import BLANK, is_digit, is_letter, signs_of
+from handboard.lines import BLANK, FIRST_DIGIT, is_digit, is_letter, signs_of
 
 MOST_ROWS = 64
 LONGEST_NAME = 12
@@ -82,3 +82,34 @@ def words_of(row):
     if denominator_of(row) != 1:
         words.extend(signs_of(" of ") + signs_of(str(denominator_of(row))))
     return words
+
+
+def split_at_blanks(signs):
+    parts = [[]]
+    for sign in signs:
+        if sign == BLANK:
+            parts.append([])
+        else:
+            parts[-1].append(sign)
+    return parts
+
+
+def number_of(digits):
+    number = 0
+    for digit in digits:
+        number = number * 10 + digit - FIRST_DIGIT
+    return number
+
+
+def row_of(words):
+    """The row that has these words; None if no row is written so."""
+    parts = split_at_blanks(words)
+    if len(parts) == 3:
+        parts = parts + [signs_of("of"), signs_of("1")]
+    if len(parts) != 5:
+        return None
+    numbers = [number_of(digits) for digits in [parts[0], parts[2], parts[4]]]
+    row = numbers + parts[1]
+    # A row has one way of writing: a 0 first, a letter in a number, a part that is
+    # empty or another word than of come out changed when the row is written again.
+    return row if words_of(row) == words else None

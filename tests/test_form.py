@@ -61,6 +61,15 @@ def imported_names(tree):
     return [alias.name for node in tree.body if isinstance(node, ast.ImportFrom) for alias in node.names]
 
 
+def own_methods(tree):
+    return [node.name for one in tree.body if isinstance(one, ast.ClassDef) for node in one.body]
+
+
+def own_values(tree):
+    """What the file's objects keep: the names that are given a value behind a dot."""
+    return [node.attr for node in ast.walk(tree) if isinstance(node, ast.Attribute) and isinstance(node.ctx, ast.Store)]
+
+
 def bound_names(tree):
     """Every name that the file binds: by a def, a class, a parameter, an assignment, a loop."""
     for node in ast.walk(tree):
@@ -164,21 +173,44 @@ class Form(unittest.TestCase):
                         names.append(node.name)
                 self.assertEqual(len(names), len(set(names)))
 
+    def test_classes(self):
+        """L5, L12, L18, L26"""
+        trees = [tree for path, text, tree in parsed_files()]
+        methods = [name for tree in trees for name in own_methods(tree)]
+        values = [name for tree in trees for name in own_values(tree)]
+        taken = [name for kind in (str, int, list, tuple, dict, set, bytes) for name in dir(kind)]
+        self.assertEqual(set(methods) & set(values), set())
+        for name in methods + values:
+            if name not in ("__init__", "__eq__", "__repr__", "__str__", "__len__"):
+                self.assertRegex(name, r"^[A-Za-z][A-Za-z0-9_]*$")
+                self.assertNotIn(name, taken)
+        for tree in trees:
+            for node in ast.walk(tree):
+                if isinstance(node, ast.ClassDef):
+                    self.assertIn(node, tree.body)
+                    self.assertLessEqual(len(node.bases), 1)
+                    self.assertEqual(node.keywords, [])
+                    names = [one.name for one in node.body if isinstance(one, ast.FunctionDef)]
+                    self.assertEqual(len(names), len(node.body))
+                    self.assertEqual(len(names), len(set(names)))
+
     def test_names(self):
         """L8, L12, L15, L25"""
+        own = [name for path, text, tree in parsed_files() for name in own_methods(tree) + own_values(tree)]
         for path, text, tree in parsed_files():
             with self.subTest(path=path.name):
                 imported = imported_names(tree)
                 bound = list(bound_names(tree))
                 for name in bound:
-                    self.assertRegex(name, r"^[A-Za-z][A-Za-z0-9_]*$")
+                    if name != "__init__":
+                        self.assertRegex(name, r"^[A-Za-z][A-Za-z0-9_]*$")
                     self.assertNotIn(name, dir(builtins))
                     self.assertNotIn(name, imported)
                 for node in ast.walk(tree):
                     if isinstance(node, ast.Name):
                         self.assertIn(node.id, bound + imported + BUILTIN_NAMES)
                     if isinstance(node, ast.Attribute):
-                        self.assertIn(node.attr, METHODS)
+                        self.assertIn(node.attr, METHODS + own)
 
 
 if __name__ == "__main__":

@@ -3,48 +3,23 @@
 import copy
 import random
 import unittest
-from fractions import Fraction
 
 from handboard.desk import print_of
-from tests.expected import SIGNS, answer, board, end_signs, line_sum, row
+from tests.expected import (
+    PAGE_EDGES,
+    SIGNS,
+    Unchangeable,
+    answer,
+    board,
+    end_signs,
+    line_sum,
+    plain_rows,
+    random_rows,
+    row,
+)
 
 TOO_MANY = [-2]
 NOT_RIGHT = [-8]
-PAGE_EDGES = {0: 1, 1: 1, 2: 1, 19: 1, 20: 1, 21: 2, 39: 2, 40: 2, 41: 3, 59: 3, 60: 3, 61: 4, 63: 4, 64: 4}
-
-
-class Unchangeable(list):
-    """A list that tells of any try to change it, even one that is taken back."""
-
-    def refuse(self, *args, **kwargs):
-        raise AssertionError("what was handed in is being changed")
-
-    append = clear = extend = insert = pop = remove = reverse = sort = refuse
-    __setitem__ = __delitem__ = __iadd__ = __imul__ = refuse
-
-
-def plain_rows(count):
-    """Right rows without anything special: each place its own number, totals 1, 2, 3 .."""
-    return [row(number, f"n{number}", number) for number in range(1, count + 1)]
-
-
-def random_rows(count, source):
-    """Right rows of many kinds: equal places and totals, whole ones and fractions, nothing."""
-    names = {}
-    while len(names) < count:
-        length = source.randint(1, 12)
-        names["".join(source.choice(SIGNS[1:]) for each in range(length))] = True
-    totals = [Fraction(0)] * source.randint(0, 2)
-    while len(totals) < count:
-        top = source.choice((9, 999, 999999))
-        bottom = source.choice((1, 1, 9, 9999))
-        totals.append(Fraction(source.randint(0, top), source.randint(1, bottom)))
-    rows = []
-    place = 1
-    for number, (name, total) in enumerate(zip(names, sorted(totals[:count])), start=1):
-        place = source.choice((place, number))
-        rows.append(row(place, name, total.numerator, total.denominator))
-    return rows
 
 
 def lines_of(rows):
