@@ -1,12 +1,13 @@
 """The calls of the notice board."""
 
 from handboard.board import board_of
+from handboard.lines import LONGEST_LINE, SHORTEST_LINE, are_signs, check_sign
 from handboard.reading import CANNOT_STAND, NO_FAULT, Reading, pieces_of, take_piece
 from handboard.rows import MOST_ROWS, are_right, denominator_of, name_of, numerator_of, place_of
 
 TOO_MANY = -2
 AT_FAULT = -6
-NOT_RIGHT = -8
+NOT_FITTING = -8
 MOST_BYTES = 65536
 
 
@@ -15,7 +16,7 @@ def print_of(rows):
     if len(rows) > MOST_ROWS:
         return [TOO_MANY]
     if not are_right(rows):
-        return [NOT_RIGHT]
+        return [NOT_FITTING]
     text = board_of(rows)
     return [len(text)] + text
 
@@ -41,3 +42,11 @@ def read(text):
     for row in reading.rows:
         answer.extend(told_row(row))
     return answer
+
+
+def sign(signs):
+    """The check sign that makes of these signs a line; or a refusal."""
+    # The check sign is one sign of the line itself.
+    if not are_signs(signs, SHORTEST_LINE - 1, LONGEST_LINE - 1):
+        return [NOT_FITTING]
+    return [check_sign(signs)]

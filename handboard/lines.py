@@ -62,13 +62,16 @@ def is_line(signs):
     return check_sum(signs) % SIGN_COUNT == 0
 
 
-def check_sign(signs):
-    """The sign that makes a line of these 1 to 35 signs."""
-    total = check_sum(signs)
-    place = len(signs) + 1
+def fitting_worth(total, place):
+    """The worth that a sign at this place, 1 to 36, has if with the others' total the sum is divided."""
     # 37 is prime and the place is less than it, so that just one worth fits.
     fitting = [worth for worth in range(SIGN_COUNT) if (total + worth * place) % SIGN_COUNT == 0]
-    return sign_of(fitting[0])
+    return fitting[0]
+
+
+def check_sign(signs):
+    """The sign that makes a line of these 1 to 35 signs."""
+    return sign_of(fitting_worth(check_sum(signs), len(signs) + 1))
 
 
 def line_of(signs):

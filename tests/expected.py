@@ -4,11 +4,13 @@ Nothing here is drawn from the package, so that a fault there is not repeated he
 """
 
 import bisect
+import copy
 import functools
 import re
 from fractions import Fraction
 
 SIGNS = " abcdefghijklmnopqrstuvwxyz0123456789"
+NO_SIGN_BYTES = [byte for byte in range(256) if chr(byte) not in SIGNS]
 # How many pages there are of so many rows.
 PAGE_EDGES = {0: 1, 1: 1, 2: 1, 19: 1, 20: 1, 21: 2, 39: 2, 40: 2, 41: 3, 59: 3, 60: 3, 61: 4, 63: 4, 64: 4}
 
@@ -140,6 +142,20 @@ def read_answer(text):
     return [-6, number, why]
 
 
+def random_signs(count, source):
+    return "".join(source.choice(SIGNS) for each in range(count))
+
+
+def with_a_byte_that_is_no_sign(counts):
+    """Lists of so many bytes: each byte that is no sign by itself, first, in the middle and last among signs."""
+    for count in counts:
+        for byte in NO_SIGN_BYTES:
+            for index in (0, count // 2, count - 1):
+                signs = bytes_of((SIGNS[1:] + SIGNS)[:count])
+                signs[index] = byte
+                yield signs
+
+
 class Unchangeable(list):
     """A list that tells of any try to change it, even one that is taken back."""
 
@@ -148,6 +164,44 @@ class Unchangeable(list):
 
     append = clear = extend = insert = pop = remove = reverse = sort = refuse
     __setitem__ = __delitem__ = __iadd__ = __imul__ = refuse
+
+
+def watched(handed_in):
+    return Unchangeable([watched(one) if isinstance(one, list) else one for one in handed_in])
+
+
+class KeepsNothing:
+    """For a test case of one call: CALL is a list of just this function, HANDED_IN what it is tried with."""
+
+    def test_what_is_handed_in_stays(self):
+        for handed_in in self.HANDED_IN:
+            with self.subTest(handed_in=handed_in[:100]):
+                before = copy.deepcopy(handed_in)
+                told = self.CALL[0](handed_in)
+                self.assertEqual(handed_in, before)
+                self.assertEqual(self.CALL[0](watched(handed_in)), told)
+
+    def test_two_calls_answer_alike(self):
+        for handed_in in self.HANDED_IN:
+            first = self.CALL[0](handed_in)
+            self.assertEqual(self.CALL[0](handed_in), first)
+            for between in self.HANDED_IN:
+                self.CALL[0](between)
+                self.assertEqual(self.CALL[0](handed_in), first)
+
+    def test_an_answer_is_its_callers_own(self):
+        for handed_in in self.HANDED_IN:
+            first = self.CALL[0](handed_in)
+            kept = list(first)
+            first.append(0)
+            first[0] = 0
+            self.assertEqual(self.CALL[0](handed_in), kept)
+
+    def test_answers_are_lists_of_whole_numbers(self):
+        for handed_in in self.HANDED_IN:
+            told = self.CALL[0](handed_in)
+            self.assertIs(type(told), list)
+            self.assertEqual({type(number) for number in told}, {int})
 
 
 def plain_rows(count):

@@ -1,14 +1,13 @@
 """print_of: what is printed of right rows, and its refusals."""
 
-import copy
 import random
 import unittest
 
 from handboard.desk import print_of
 from tests.expected import (
+    KeepsNothing,
     PAGE_EDGES,
     SIGNS,
-    Unchangeable,
     answer,
     board,
     end_signs,
@@ -336,7 +335,8 @@ class NotRightRows(unittest.TestCase):
         self.assert_not_right([[1, top - 1, top, 97]])
 
 
-class NothingKept(unittest.TestCase):
+class NothingKept(KeepsNothing, unittest.TestCase):
+    CALL = [print_of]
     HANDED_IN = (
         [],
         plain_rows(1),
@@ -348,37 +348,6 @@ class NothingKept(unittest.TestCase):
         [row(1, "a", 1), row(1, "b", 1), row(3, "a", 1, 2)],
         [row(1, "anna", 1, 2), row(2, "bob", 2, 3)],
     )
-
-    def test_what_is_handed_in_stays(self):
-        for rows in self.HANDED_IN:
-            with self.subTest(rows=rows):
-                before = copy.deepcopy(rows)
-                told = print_of(rows)
-                self.assertEqual(rows, before)
-                watched = Unchangeable([Unchangeable(one_row) for one_row in rows])
-                self.assertEqual(print_of(watched), told)
-                self.assertEqual(watched, before)
-
-    def test_two_calls_answer_alike(self):
-        for rows in self.HANDED_IN:
-            for between in self.HANDED_IN:
-                first = print_of(rows)
-                print_of(between)
-                self.assertEqual(print_of(rows), first)
-
-    def test_an_answer_is_its_callers_own(self):
-        for rows in self.HANDED_IN:
-            first = print_of(rows)
-            kept = list(first)
-            first.append(0)
-            first[0] = 0
-            self.assertEqual(print_of(rows), kept)
-
-    def test_answers_are_lists_of_whole_numbers(self):
-        for rows in self.HANDED_IN:
-            told = print_of(rows)
-            self.assertIs(type(told), list)
-            self.assertEqual({type(number) for number in told}, {int})
 
 
 if __name__ == "__main__":

@@ -5,9 +5,9 @@ import unittest
 
 from handboard.desk import print_of, read
 from tests.expected import (
+    KeepsNothing,
     PAGE_EDGES,
     SIGNS,
-    Unchangeable,
     board,
     bytes_of,
     end_signs,
@@ -647,7 +647,8 @@ class AgainstTheSecondTelling(ReadCase):
         self.assertGreater(min(whys.values()), 50, whys)
 
 
-class NothingKept(ReadCase):
+class NothingKept(KeepsNothing, unittest.TestCase):
+    CALL = [read]
     HANDED_IN = [bytes_of(text) for text in (
         "",
         "\n",
@@ -663,38 +664,6 @@ class NothingKept(ReadCase):
         "Page\n",
         "a" * 65537,
     )]
-
-    def test_what_is_handed_in_stays(self):
-        for text in self.HANDED_IN:
-            with self.subTest(text=text[:100]):
-                before = list(text)
-                told = read(text)
-                self.assertEqual(text, before)
-                watched = Unchangeable(text)
-                self.assertEqual(read(watched), told)
-                self.assertEqual(watched, before)
-
-    def test_two_calls_answer_alike(self):
-        for text in self.HANDED_IN:
-            first = read(text)
-            self.assertEqual(read(text), first)
-            for between in self.HANDED_IN:
-                read(between)
-                self.assertEqual(read(text), first)
-
-    def test_an_answer_is_its_callers_own(self):
-        for text in self.HANDED_IN:
-            first = read(text)
-            kept = list(first)
-            first.append(0)
-            first[0] = 0
-            self.assertEqual(read(text), kept)
-
-    def test_answers_are_lists_of_whole_numbers(self):
-        for text in self.HANDED_IN:
-            told = read(text)
-            self.assertIs(type(told), list)
-            self.assertEqual({type(number) for number in told}, {int})
 
 
 class WordsOfTheSamples(ReadCase):
