@@ -1,7 +1,7 @@
 """The calls of the notice board."""
 
 from handboard.board import board_of
-from handboard.lines import LONGEST_LINE, SHORTEST_LINE, are_signs, check_sign
+from handboard.lines import LONGEST_LINE, SHORTEST_LINE, are_signs, check_sign, is_line
 from handboard.reading import CANNOT_STAND, NO_FAULT, Reading, pieces_of, take_piece
 from handboard.rows import MOST_ROWS, are_right, denominator_of, name_of, numerator_of, place_of
 
@@ -50,3 +50,10 @@ def sign(signs):
     if not are_signs(signs, SHORTEST_LINE - 1, LONGEST_LINE - 1):
         return [NOT_FITTING]
     return [check_sign(signs)]
+
+
+def right(signs):
+    """1 if these signs are a line, 0 if they are none; or a refusal."""
+    if not are_signs(signs, SHORTEST_LINE, LONGEST_LINE):
+        return [NOT_FITTING]
+    return [1 if is_line(signs) else 0]

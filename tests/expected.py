@@ -67,6 +67,21 @@ def board(rows):
     return "".join(line + "\n" for line in lines)
 
 
+def with_each_other_sign(line):
+    """All that comes of the line by another sign at one place."""
+    for index, sign in enumerate(line):
+        for other in SIGNS:
+            if other != sign:
+                yield line[:index] + other + line[index + 1:]
+
+
+def with_neighbours_exchanged(line):
+    """All that comes of the line by two different neighbours exchanged."""
+    for index in range(len(line) - 1):
+        if line[index] != line[index + 1]:
+            yield line[:index] + line[index + 1] + line[index] + line[index + 2:]
+
+
 def lines_text(*all_words):
     """A text of lines with these words, each with its check sign and a line feed."""
     return "".join(with_check_sign(words) + "\n" for words in all_words)

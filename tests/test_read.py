@@ -18,6 +18,8 @@ from tests.expected import (
     row,
     rows_answer,
     with_check_sign,
+    with_each_other_sign,
+    with_neighbours_exchanged,
     words,
 )
 
@@ -270,9 +272,8 @@ class WrongSum(ReadCase):
         rows = [row(1, "anna", 0), row(1, "bob", 0), row(3, "c3po", 1, 2), row(4, "zzzzzzzzzzzz", 999998, 9999)]
         lines = lines_of(board(rows))
         for number, line in enumerate(lines):
-            for index in range(len(line)):
-                for sign in SIGNS.replace(line[index], ""):
-                    self.assert_told_there(lines, number, line[:index] + sign + line[index + 1:])
+            for spoilt in with_each_other_sign(line):
+                self.assert_told_there(lines, number, spoilt)
 
     def test_each_line_of_boards_of_many_pages(self):
         source = random.Random(22)
@@ -288,10 +289,8 @@ class WrongSum(ReadCase):
         for count in (0, 1, 20, 21, 41, 64):
             lines = lines_of(board(random_rows(count, source)))
             for number, line in enumerate(lines):
-                for index in range(len(line) - 1):
-                    if line[index] != line[index + 1]:
-                        exchanged = line[:index] + line[index + 1] + line[index] + line[index + 2:]
-                        self.assert_told_there(lines, number, exchanged)
+                for spoilt in with_neighbours_exchanged(line):
+                    self.assert_told_there(lines, number, spoilt)
 
     def test_ahead_of_3_on_the_same_line(self):
         self.assert_fault("end   s\n", 0, WRONG_SUM)
