@@ -2,6 +2,7 @@
 
 from handboard.board import board_of
 from handboard.lines import LONGEST_LINE, SHORTEST_LINE, are_signs, check_sign, is_line
+from handboard.mending import mended_lines
 from handboard.reading import CANNOT_STAND, NO_FAULT, Reading, pieces_of, take_piece
 from handboard.rows import MOST_ROWS, are_right, denominator_of, name_of, numerator_of, place_of
 
@@ -57,3 +58,14 @@ def right(signs):
     if not are_signs(signs, SHORTEST_LINE, LONGEST_LINE):
         return [NOT_FITTING]
     return [1 if is_line(signs) else 0]
+
+
+def mends(signs):
+    """How many lines these signs may have been, then these lines; or a refusal."""
+    if not are_signs(signs, SHORTEST_LINE, LONGEST_LINE):
+        return [NOT_FITTING]
+    lines = mended_lines(signs)
+    answer = [len(lines)]
+    for line in lines:
+        answer.extend(line)
+    return answer

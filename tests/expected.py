@@ -82,6 +82,13 @@ def with_neighbours_exchanged(line):
             yield line[:index] + line[index + 1] + line[index] + line[index + 2:]
 
 
+def mends_answer(signs):
+    """What mends answers of these 2 to 36 signs: each way is tried, with no thought of how they come about."""
+    tried = [*with_each_other_sign(signs), *with_neighbours_exchanged(signs)]
+    lines = sorted({line.encode("ascii") for line in tried if line_sum(line) % 37 == 0})
+    return [len(lines), *b"".join(lines)]
+
+
 def lines_text(*all_words):
     """A text of lines with these words, each with its check sign and a line feed."""
     return "".join(with_check_sign(words) + "\n" for words in all_words)
